@@ -27,9 +27,10 @@ func Unpack(b []byte) (api.Frame, api.Errno) {
 
 // Keeper is one of those who agree.
 type Keeper struct {
-	disk   []byte          // the records, as they were written
-	said   records.Content // what these records say
-	agreed int             // never written: a keeper learns it anew from the others
+	config api.Config
+	disk   records.Disk
+	agreed int                 // never written: a keeper learns it anew from the others
+	holds  [api.MaxKeepers]int // how far each other keeper holds, as far as the head knows
 }
 
 // Open makes a keeper of a disk (P4).
@@ -37,8 +38,7 @@ func Open(c api.Config, disk []byte) (*Keeper, api.Errno) {
 	if !rightConfig(c) {
 		return nil, api.ErrConfig
 	}
-	said, size := records.Read(disk)
-	return &Keeper{disk: copied(disk[:size]), said: said}, api.OK
+	return &Keeper{config: c, disk: records.Open(disk)}, api.OK
 }
 
 func rightConfig(c api.Config) bool {
@@ -47,27 +47,40 @@ func rightConfig(c api.Config) bool {
 		c.Patience >= 2 && c.Patience <= api.MaxPatience
 }
 
-// copied keeps what goes in and out apart: neither side sees what the other writes.
-func copied[T any](list []T) []T {
-	return append([]T(nil), list...)
+// Heard takes a frame; what is to be sent then (P6 to P9).
+func (k *Keeper) Heard(b []byte) ([]api.Out, api.Errno) {
+	if k.disk.Failed() {
+		return nil, api.ErrDead
+	}
+	came, ok := frames.Read(b)
+	if !ok || !k.accepts(came) {
+		return nil, api.ErrFrame
+	}
+	return k.unlessCrashed(k.hear(came))
 }
 
-// Heard takes a frame; what is to be sent then (P6 to P9).
-func (k *Keeper) Heard(b []byte) ([]api.Out, api.Errno) { return nil, api.OK }
-
 // Tick lets some time pass; what is to be sent then (P10).
-func (k *Keeper) Tick() ([]api.Out, api.Errno) { return nil, api.OK }
+func (k *Keeper) Tick() ([]api.Out, api.Errno) {
+	if k.disk.Failed() {
+		return nil, api.ErrDead
+	}
+	if !k.isHead() {
+		return nil, api.OK
+	}
+	return k.remindOthers(), api.OK
+}
 
 // State tells a keeper's state (P11).
 func (k *Keeper) State() api.State {
-	return api.State{View: k.said.View, Last: k.said.Last, Lines: len(k.said.Lines), Agreed: k.agreed}
+	said := k.disk.Said()
+	return api.State{View: said.View, Last: said.Last, Lines: len(said.Lines), Agreed: k.agreed}
 }
 
 // Agreed tells the lines that are agreed (P11).
-func (k *Keeper) Agreed() []api.Line { return copied(k.said.Lines[:k.agreed]) }
+func (k *Keeper) Agreed() []api.Line { return append([]api.Line(nil), k.agreedLines()...) }
 
 // Arm lets the disk fail at a write (P5).
-func (k *Keeper) Arm(write int) {}
+func (k *Keeper) Arm(write int) { k.disk.Arm(write) }
 
 // Disk tells what is on the disk; keep: what of a write that failed (P5).
-func (k *Keeper) Disk(keep int) []byte { return copied(k.disk) }
+func (k *Keeper) Disk(keep int) []byte { return k.disk.Bytes(keep) }
