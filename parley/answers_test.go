@@ -22,6 +22,8 @@ func TestP2HeardLeavesWhatIsHandedIn(t *testing.T) {
 		{1, moreRecord(a), prepare(0, 0, 2, 2, b)},
 		{1, moreRecord(a), begin(0, 0, 2, a, b)},
 		{1, viewRecord(3), begin(0, 3, 2, a, b)},
+		{1, moreRecord(a), begin(0, 3, 2, a, b)},
+		{1, moreRecord(a), yield(0, 1, 2, 0, a, b)},
 	} {
 		k := openAs(t, 3, c.me, c.disk)
 		whole, part := withSpare(packed(t, c.frame), 0xee)
@@ -54,6 +56,44 @@ func TestP2WhatIsSentIsApart(t *testing.T) {
 	}
 	wantAgreed(t, k, a, b)
 	wantDisk(t, k, moreRecord(a)+moreRecord(b))
+}
+
+// A Yield is kept till a view begins: not its bytes, though.
+func TestP2AYieldIsKeptApart(t *testing.T) {
+	a, b := line(7, 1, "eightlet"), line(8, 1, "b")
+	k := openAs(t, 3, 1, "")
+	bytes := packed(t, yield(0, 1, 2, 0, a, b))
+	if out, e := k.Heard(bytes); len(out) != 2 || e != api.OK {
+		t.Errorf("P8: a Yield: %d frames, %d", len(out), e)
+	}
+	scribble(bytes, 0x11)
+	hears(t, k, change(0, 1), toEach(begin(1, 1, 2, a, b), 0, 2)...)
+	wantAgreed(t, k, a, b)
+}
+
+func TestP2WhatIsSentBetweenViewsIsApart(t *testing.T) {
+	a, b := line(7, 1, "a"), line(8, 1, "b")
+	for me := range 5 {
+		k, twin := openPatient(t, 5, me, 3, moreRecord(a)), openPatient(t, 5, me, 3, moreRecord(a))
+		for _, from := range othersOfFive(me) {
+			for _, f := range []api.Frame{beat(0, 0, 1), change(from, 1), yield(from, 1, 1, 0, a, b), lag(from, 1), change(from, 2)} {
+				out, e := k.Heard(packed(t, f))
+				want, again := twin.Heard(packed(t, f))
+				if len(out) != len(want) || e != again {
+					t.Fatalf("P2: twins send %d frames, %d and %d, %d", len(out), e, len(want), again)
+				}
+				wantOutsApart(t, out, want)
+				out, _ = k.Tick()
+				want, _ = twin.Tick()
+				wantOutsApart(t, out, want)
+				scribble(k.Agreed(), line(5, 55, "mark"))
+				scribble(k.Disk(0), 0xee)
+			}
+		}
+		if k.State() != twin.State() || string(k.Disk(0)) != string(twin.Disk(0)) || !slices.Equal(k.Agreed(), twin.Agreed()) {
+			t.Errorf("P2: twins say %+v and %+v", k.State(), twin.State())
+		}
+	}
 }
 
 // wantOutsApart writes into the frames, one behind the other, and holds those that follow against what they were.

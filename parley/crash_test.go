@@ -26,6 +26,10 @@ func writings() []writing {
 		{"a Prepare", moreRecord(a), 1, prepare(0, 0, 2, 1, b), moreRecord(b), api.State{Lines: 2}},
 		{"a Begin of more lines", moreRecord(a), 2, begin(0, 0, 2, a, b), allRecord(0, a, b), api.State{Lines: 2}},
 		{"a Begin between views", moreRecord(a) + viewRecord(4), 2, begin(1, 4, 0), allRecord(4), api.State{View: 4, Last: 4}},
+		{"a Begin of a greater view", moreRecord(a), 0, begin(1, 4, 1, b), allRecord(4, b), api.State{View: 4, Last: 4, Lines: 1}},
+		{"a Change of a greater view", moreRecord(a), 0, change(1, 100), viewRecord(100), api.State{View: 100, Lines: 1}},
+		{"a Change to whom it may yield", moreRecord(a), 2, change(0, 1), viewRecord(1), api.State{View: 1, Lines: 1}},
+		{"a Yield of a greater view", allRecord(2, a), 2, yield(1, 5, 1, 2, b), viewRecord(5), api.State{View: 5, Last: 2, Lines: 1}},
 	}
 }
 
@@ -195,4 +199,83 @@ func TestP5OpenedAfterACrash(t *testing.T) {
 	hears(t, n, say(b), toEach(prepare(0, 0, 2, 0, b), 1, 2)...)
 	wantDisk(t, n, moreRecord(a)+moreRecord(b))
 	wantDisk(t, k, moreRecord(a))
+}
+
+// yielding: the keeper 1 of 3, between views, that has heard all but what lets view 4 begin.
+func yielding(t *testing.T, last api.Frame) *parley.Keeper {
+	t.Helper()
+	k := openAs(t, 3, 1, moreRecord(line(7, 1, "a"))+viewRecord(4))
+	if last.Kind == api.Yield {
+		hears(t, k, change(0, 4))
+	} else {
+		hears(t, k, yield(0, 4, 1, 0, line(7, 1, "a"), line(8, 1, "b")))
+	}
+	return k
+}
+
+// The record of a view that begins by what was heard, be it a Yield or a Change that comes last.
+func TestP5AViewThatBeginsFails(t *testing.T) {
+	a, b := line(7, 1, "a"), line(8, 1, "b")
+	for _, last := range []api.Frame{yield(2, 4, 1, 0, a, b), change(2, 4)} {
+		w := writing{"a view that begins", moreRecord(a) + viewRecord(4), 1, last, allRecord(4, a, b), api.State{View: 4, Last: 4, Lines: 2}}
+		k := yielding(t, last)
+		hears(t, k, last, toEach(begin(1, 4, 1, a, b), 0, 2)...)
+		wantDisk(t, k, w.disk+w.record)
+		k = yielding(t, last)
+		k.Arm(1)
+		refuses(t, k, packed(t, last), api.ErrCrash)
+		wantDead(t, k)
+		wantKept(t, k, w)
+	}
+}
+
+func TestP5ATickThatFails(t *testing.T) {
+	a := line(7, 1, "a")
+	for _, disk := range []string{moreRecord(a), allRecord(6, a), moreRecord(a) + viewRecord(6), allRecord(6, a) + viewRecord(8)} {
+		before := openAs(t, 3, 1, disk).State()
+		k := openPatient(t, 3, 1, 2, disk)
+		k.Arm(1)
+		tickUnseen(t, k)
+		if out, e := k.Tick(); len(out) != 0 || e != api.ErrCrash {
+			t.Errorf("P5: a Tick whose record fails: %d frames, %d", len(out), e)
+		}
+		wantDead(t, k)
+		after := before
+		after.View++
+		wantKept(t, k, writing{"a Tick", disk, 1, api.Frame{}, viewRecord(after.View), after})
+	}
+}
+
+// The records of ticks count too, and only those that are written.
+func TestP5WhichRecordOfTicksFails(t *testing.T) {
+	k := openPatient(t, 3, 2, 2, "")
+	k.Arm(3)
+	for view := 1; view <= 2; view++ {
+		tickUnseen(t, k)
+		ticks(t, k, toEach(change(2, view), 0, 1)...)
+	}
+	tickUnseen(t, k)
+	hears(t, k, change(0, 1), to(0, change(2, 2)))
+	if out, e := k.Tick(); len(out) != 0 || e != api.ErrCrash {
+		t.Errorf("P5: the third record: %d frames, %d", len(out), e)
+	}
+	last := openPatient(t, 3, 2, 2, viewRecord(100))
+	last.Arm(1)
+	for range 9 {
+		tickUnseen(t, last) // no view is written above 100
+	}
+	refuses(t, last, packed(t, begin(1, 100, 0)), api.ErrCrash)
+}
+
+// Who falls when it has changed is between views when it comes back, and takes part in no earlier view.
+func TestP5AViewIsNotForgotten(t *testing.T) {
+	a, b := line(7, 1, "a"), line(8, 1, "b")
+	k := openAs(t, 3, 2, moreRecord(a))
+	hears(t, k, change(0, 1), append(toEach(change(2, 1), 0, 1), to(1, yield(2, 1, 0, 0, a)))...)
+	k.Arm(1)
+	refuses(t, k, packed(t, change(0, 2)), api.ErrCrash)
+	n := openAs(t, 3, 2, string(k.Disk(2)))
+	wantState(t, n, 1, 0, 1, 0)
+	hears(t, n, prepare(0, 0, 2, 0, b), to(0, change(2, 1)))
+	wantState(t, n, 1, 0, 1, 0)
 }

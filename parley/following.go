@@ -8,6 +8,7 @@ import (
 
 // hearPrepare: a place beyond the next one shows that a line was missed, and the head must tell all.
 func (k *Keeper) hearPrepare(f frames.Prepare) []api.Out {
+	k.waited = 0
 	if f.Place == len(k.lines())+1 && !k.addLine(f.Line) {
 		return nil
 	}
@@ -23,19 +24,25 @@ func (k *Keeper) addLine(l api.Line) bool {
 }
 
 func (k *Keeper) hearBeat(f frames.Beat) []api.Out {
+	k.waited = 0
 	if f.Agreed > len(k.lines()) {
 		return k.lag(f.Stamp)
 	}
 	return k.hold(f.Stamp, f.Agreed)
 }
 
-// hearBegin: a keeper that is in the view has nothing to learn from lines that are no more than its own.
+// hearBegin is of the keeper's view or of a greater one.
 func (k *Keeper) hearBegin(f frames.Begin) []api.Out {
-	news := !k.inView() || len(f.Lines) > len(k.lines())
-	if news && !k.disk.All(f.View, f.Lines) {
+	k.waited = 0
+	if k.isNews(f) && !k.beginView(f.View, f.Lines) {
 		return nil
 	}
 	return k.hold(f.Stamp, f.Agreed)
+}
+
+// isNews: a keeper that is in the view has nothing to learn from lines that are no more than its own.
+func (k *Keeper) isNews(f frames.Begin) bool {
+	return f.View > k.view() || !k.inView() || len(f.Lines) > len(k.lines())
 }
 
 // hold takes what the head says is agreed, and tells it how far this keeper holds.
@@ -44,6 +51,7 @@ func (k *Keeper) hold(head frames.Stamp, agreed int) []api.Out {
 	return answer(head, frames.Hold{Stamp: k.stamp(), Place: len(k.lines())})
 }
 
-func (k *Keeper) lag(head frames.Stamp) []api.Out {
-	return answer(head, frames.Lag{Stamp: k.stamp()})
+// lag is of the view of which something was missed, though that may not be the keeper's yet.
+func (k *Keeper) lag(missed frames.Stamp) []api.Out {
+	return answer(missed, frames.Lag{Stamp: frames.Stamp{From: k.config.Me, View: missed.View}})
 }

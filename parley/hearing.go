@@ -39,9 +39,49 @@ func (k *Keeper) hear(came frames.Frame) []api.Out {
 }
 
 func (k *Keeper) hearKeeper(came frames.OfKeeper) []api.Out {
+	stamp := came.Stamped()
 	switch {
-	case came.Stamped().View != k.view():
+	case stamp.View < k.view():
+		return k.hearEarlier(stamp)
+	case stamp.View > k.view():
+		return k.hearLater(came)
+	}
+	return k.hearOwn(came)
+}
+
+// hearEarlier: who sent it has missed a view, whatever it says.
+func (k *Keeper) hearEarlier(stamp frames.Stamp) []api.Out {
+	switch {
+	case !k.inView():
+		return answer(stamp, k.change())
+	case k.isHead():
+		return answer(stamp, k.begin())
+	}
+	return nil
+}
+
+// hearLater: this keeper has missed a view; if that has begun, its head is to tell all.
+func (k *Keeper) hearLater(came frames.OfKeeper) []api.Out {
+	switch f := came.(type) {
+	case frames.Change, frames.Yield:
+		return k.changeAndHear(f)
+	case frames.Begin:
+		return k.hearBegin(f)
+	}
+	return k.lag(came.Stamped())
+}
+
+func (k *Keeper) changeAndHear(came frames.OfKeeper) []api.Out {
+	changes := k.changeTo(came.Stamped().View)
+	if k.disk.Failed() {
 		return nil
+	}
+	return append(changes, k.hearOwn(came)...)
+}
+
+// hearOwn hears a frame of the keeper's own view.
+func (k *Keeper) hearOwn(came frames.OfKeeper) []api.Out {
+	switch {
 	case k.isHead():
 		return k.hearAsHead(came)
 	case k.inView():
@@ -74,6 +114,10 @@ func (k *Keeper) hearInView(came frames.OfKeeper) []api.Out {
 
 func (k *Keeper) hearBetween(came frames.OfKeeper) []api.Out {
 	switch f := came.(type) {
+	case frames.Change:
+		return k.hearChange(f)
+	case frames.Yield:
+		return k.hearYield(f)
 	case frames.Begin:
 		return k.hearBegin(f)
 	}

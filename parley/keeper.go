@@ -21,9 +21,10 @@ func (k *Keeper) inView() bool {
 	return said.Last == said.View
 }
 
-func (k *Keeper) isHead() bool {
-	return k.inView() && k.headOf(k.view()) == k.config.Me
-}
+// isHeadByNumber: of its view, whether that has begun for it or not.
+func (k *Keeper) isHeadByNumber() bool { return k.headOf(k.view()) == k.config.Me }
+
+func (k *Keeper) isHead() bool { return k.inView() && k.isHeadByNumber() }
 
 func (k *Keeper) isOther(keeper int) bool {
 	return keeper >= 0 && keeper < k.config.Keepers && keeper != k.config.Me
@@ -48,6 +49,11 @@ func (k *Keeper) stamp() frames.Stamp {
 // takeAgreed: others may have agreed on more lines than this keeper has yet.
 func (k *Keeper) takeAgreed(agreed int) {
 	k.agreed = min(max(k.agreed, agreed), len(k.lines()))
+}
+
+// forgetView: what was heard in one view says nothing in the next.
+func (k *Keeper) forgetView() {
+	*k = Keeper{config: k.config, disk: k.disk, agreed: k.agreed}
 }
 
 // unlessCrashed holds back what would be sent if a record failed, and lets a dead keeper forget all but its disk.

@@ -4,6 +4,7 @@ package parley
 import (
 	"parley/api"
 	"parley/frames"
+	"parley/poll"
 	"parley/records"
 )
 
@@ -29,8 +30,13 @@ func Unpack(b []byte) (api.Frame, api.Errno) {
 type Keeper struct {
 	config api.Config
 	disk   records.Disk
-	agreed int                 // never written: a keeper learns it anew from the others
-	holds  [api.MaxKeepers]int // how far each other keeper holds, as far as the head knows
+	agreed int // never written: a keeper learns it anew from the others
+
+	// What follows is of the keeper's view alone.
+	holds   [api.MaxKeepers]int // how far each other keeper holds, as far as the head knows
+	waited  int                 // for how many ticks who is not the head has heard nothing of it
+	heard   poll.Poll           // what was heard between views
+	yielded bool
 }
 
 // Open makes a keeper of a disk (P4).
@@ -64,10 +70,7 @@ func (k *Keeper) Tick() ([]api.Out, api.Errno) {
 	if k.disk.Failed() {
 		return nil, api.ErrDead
 	}
-	if !k.isHead() {
-		return nil, api.OK
-	}
-	return k.remindOthers(), api.OK
+	return k.unlessCrashed(k.letPass())
 }
 
 // State tells a keeper's state (P11).

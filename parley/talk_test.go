@@ -61,7 +61,12 @@ func toEach(f api.Frame, keepers ...int) []parcel {
 
 func openAs(t *testing.T, keepers, me int, disk string) *parley.Keeper {
 	t.Helper()
-	k, e := parley.Open(api.Config{Keepers: keepers, Me: me, Patience: 5}, []byte(disk))
+	return openPatient(t, keepers, me, 5, disk)
+}
+
+func openPatient(t *testing.T, keepers, me, patience int, disk string) *parley.Keeper {
+	t.Helper()
+	k, e := parley.Open(api.Config{Keepers: keepers, Me: me, Patience: patience}, []byte(disk))
 	if k == nil || e != api.OK {
 		t.Fatalf("P4: Open of the disk %x: %v, %d", disk, k != nil, e)
 	}

@@ -46,6 +46,9 @@ func (d *Disk) LineMore(l api.Line) bool {
 	return d.write(row.AppendLine([]byte{lineMore}, l))
 }
 
+// View writes that the view is another one; false: the disk has failed.
+func (d *Disk) View(v int) bool { return d.write([]byte{view, byte(v)}) }
+
 // All writes that these lines, which must be right, are all, and of which view; false: the disk has failed.
 func (d *Disk) All(view int, lines []api.Line) bool {
 	return d.write(row.Append([]byte{all, byte(view)}, lines))

@@ -39,7 +39,15 @@ func TestWriting(t *testing.T) {
 	if !d.All(0, nil) {
 		t.Errorf("all, without lines, has failed")
 	}
-	wantDisk(t, &d, written+record("\x03\x00\x00"), Content{})
+	written += record("\x03\x00\x00")
+	wantDisk(t, &d, written, Content{})
+	if !d.LineMore(a) || !d.View(100) {
+		t.Errorf("a view has failed")
+	}
+	written += record("\x01\x07\x01\x01a") + record("\x02\x64")
+	wantDisk(t, &d, written, Content{View: 100, Lines: []api.Line{a}})
+	again := Open(d.Bytes(0))
+	wantDisk(t, &again, written, Content{View: 100, Lines: []api.Line{a}})
 }
 
 func TestTheGreatestRecord(t *testing.T) {
@@ -68,7 +76,7 @@ func TestFailing(t *testing.T) {
 	wantDisk(t, &d, one, Content{})
 	for _, n := range []int{0, 1, -1} {
 		d.Arm(n)
-		if d.LineMore(c) || d.All(1, nil) || !d.Failed() {
+		if d.LineMore(c) || d.View(1) || d.All(1, nil) || !d.Failed() {
 			t.Errorf("a disk that has failed is written")
 		}
 	}
